@@ -5,6 +5,9 @@ CLOCK = 2
 STOP = 3
 SIGNAL = 4
 GOAL = 5
+NOW = 6
+BOX = 7
+MINUTES = 8
 
 # By a call's number: how many whole numbers stand behind it (a stop's row comes behind these).
 WHOLE_NUMBERS = {1: 1, 2: 1, 3: 1, 4: 3, 5: 2, 6: 0, 7: 1, 8: 1, 9: 1}
@@ -33,7 +36,7 @@ EXPULSION = 5
 
 # By the kind that is told: the minors, majors and misconducts to be served, and the minutes noted.
 SERVED = ((0,), (1,), (2,), (0, 0), (1,), ())
-MINUTES = (2, 5, 10, 4, 25, 20)
+MINUTES_NOTED = (2, 5, 10, 4, 25, 20)
 # Of a minor, a major, a misconduct.
 SECONDS = (120, 300, 600)
 
@@ -47,7 +50,7 @@ class Penalty:
         self.left = left
         self.counts = counts
 
-    def served(self, seconds):
+    def less(self, seconds):
         return Penalty(self.player, self.kind, self.left - seconds, self.counts)
 
 
@@ -65,16 +68,43 @@ def running(box):
     return answer
 
 
+def until_one_is_over(box):
+    """The seconds until the first of those that run is over; who runs stays the same up to then."""
+    runs = running(box)
+    return min([box[k].left for k in range(len(box)) if runs[k]])
+
+
+def with_less_left(box, seconds):
+    """A team's penalties, those that run with so many seconds less, the ones with nothing left too."""
+    runs = running(box)
+    return [box[k].less(seconds) if runs[k] else box[k] for k in range(len(box))]
+
+
 def box_after(box, seconds):
     """A team's penalties that aren't over when so many seconds have gone by."""
-    while seconds > 0:
-        runs = running(box)
-        # Who runs stays the same until the first of them is over, so no step goes beyond that.
-        step = min([seconds] + [box[k].left for k in range(len(box)) if runs[k]])
-        served = [box[k].served(step) if runs[k] else box[k] for k in range(len(box))]
-        box = [penalty for penalty in served if penalty.left > 0]
+    while box and seconds > 0:
+        step = min(seconds, until_one_is_over(box))
+        box = [penalty for penalty in with_less_left(box, step) if penalty.left > 0]
         seconds -= step
     return box
+
+
+def times_over(box, time):
+    """At which time each of a team's penalties is over if nothing else comes, in their order."""
+    times = [time for penalty in box]
+    # Where those that aren't over yet stood at the beginning.
+    places = list(range(len(box)))
+    while places:
+        step = until_one_is_over(box)
+        time += step
+        # Each is given every later time up to the one at which it is over.
+        for place in places:
+            times[place] = time
+        served = with_less_left(box, step)
+        kept = [k for k in range(len(served)) if served[k].left > 0]
+        box = [served[k] for k in kept]
+        places = [places[k] for k in kept]
+    return times
 
 
 def skaters_with(box, skaters):
@@ -151,6 +181,7 @@ class Game:
         self.time = 0
         self.boxes = [[], []]
         self.signalled = []
+        self.goals = [0, 0]
         # By team and player: the minutes noted, the majors given, who is out of the game.
         self.noted = {}
         self.majors = {}
@@ -189,12 +220,38 @@ class Game:
         if not self.may_be(time) or team not in TEAMS:
             return [WRONG]
         self.pass_to(time)
+        self.goals[team] += 1
         strength = self.strength(team)
         ended = self.end_minor(1 - team) if strength == 1 else NOBODY
         if ended == NOBODY:
             self.signalled = without_first_minor(self.signalled, 1 - team)
         self.bring(self.signalled)
         return [strength, ended] + self.both_skaters()
+
+    def now(self):
+        return [self.time] + self.both_skaters() + self.goals + [len(self.signalled)]
+
+    def box(self, team):
+        penalties = self.boxes[team]
+        answer = [len(penalties)]
+        for penalty, runs in zip(penalties, running(penalties)):
+            answer.extend([penalty.player, penalty.kind, penalty.left, int(penalty.counts), int(runs)])
+        return answer
+
+    def minutes(self, team):
+        players = [player for of_team, player in self.noted if of_team == team]
+        answer = [sum([self.noted[(team, player)] for player in players])]
+        for player in players:
+            who = (team, player)
+            answer.extend([player, self.noted[who], int(who in self.out)])
+        return answer
+
+    def till(self, team):
+        penalties = self.boxes[team]
+        answer = [len(penalties)]
+        for penalty, time in zip(penalties, times_over(penalties, self.time)):
+            answer.extend([penalty.player, time])
+        return answer
 
     def may_be(self, time):
         return self.time <= time <= LAST_TIME
@@ -238,7 +295,7 @@ class Game:
         self.signalled = []
 
     def note(self, who, kind):
-        self.noted[who] = self.noted.get(who, 0) + MINUTES[kind]
+        self.noted[who] = self.noted.get(who, 0) + MINUTES_NOTED[kind]
         self.majors[who] = self.majors.get(who, 0) + SERVED[kind].count(MAJOR)
         if kind in (MATCH, EXPULSION) or self.majors[who] >= MAJORS_TO_BE_OUT:
             self.out[who] = True
@@ -265,6 +322,16 @@ def read_calls(calls):
     return read
 
 
+def answer_of_team(game, call, team):
+    if team not in TEAMS:
+        return [WRONG]
+    if call == BOX:
+        return game.box(team)
+    if call == MINUTES:
+        return game.minutes(team)
+    return game.till(team)
+
+
 def answer_in_game(game, call, numbers, row):
     if call == CLOCK:
         return game.clock(numbers[0])
@@ -274,7 +341,9 @@ def answer_in_game(game, call, numbers, row):
         return game.signal(numbers[0], numbers[1], numbers[2])
     if call == GOAL:
         return game.goal(numbers[0], numbers[1])
-    raise NotImplementedError("calls 6 to 9 are not built yet")
+    if call == NOW:
+        return game.now()
+    return answer_of_team(game, call, numbers[0])
 
 
 def answers(calls):

@@ -32,6 +32,27 @@ def goal(time, team):
     return [5, time, team]
 
 
+def now():
+    return [6]
+
+
+def box(team):
+    return [7, team]
+
+
+def minutes(team):
+    return [8, team]
+
+
+def till(team):
+    return [9, team]
+
+
+def all_shown():
+    """The calls that show all of a game and change nothing of it."""
+    return (now(), box(0), box(1), minutes(0), minutes(1), till(0), till(1))
+
+
 def taken_apart(told):
     answered = []
     place = 0

@@ -1,14 +1,14 @@
-"""Promise 2: the refusals of clock, stop and goal; each leaves everything as it was."""
+"""Promises 2 and 3: the refusals of clock, stop, goal, box, minutes and till; each leaves everything as it was."""
 import unittest
 
-from tests.helper import (DOUBLE, EXPELLED, LARGEST, MAJOR, MATCH, MINOR, MISCONDUCT, SMALLEST, ask, begin, clock,
-                          goal, last, minors, signal, stop, stop_row)
+from tests.helper import (DOUBLE, EXPELLED, LARGEST, MAJOR, MATCH, MINOR, MISCONDUCT, SMALLEST, all_shown, ask, begin,
+                          box, clock, goal, last, minors, minutes, signal, stop, stop_row, till)
 
 # A game at second 100: two against team 0, one waiting behind them, one signalled against team 1.
 BEFORE = (begin(6), stop(100, (0, 1, MINOR), (0, 2, MAJOR), (0, 3, MINOR), (1, 9, EXPELLED)), signal(1, 4, MINOR))
 # What shows all of it: time, what is left to serve, who waits, what is signalled and who is out.
-AFTER = (clock(99), clock(100), clock(219), clock(220), signal(1, 9, MINOR), stop(339), clock(340), clock(399),
-         clock(400), clock(459))
+AFTER = (*all_shown(), clock(99), clock(100), clock(219), clock(220), signal(1, 9, MINOR), stop(339), clock(340),
+         clock(399), clock(400), clock(459), *all_shown())
 SHOWN = ask(*BEFORE, *AFTER)[len(BEFORE):]
 
 
@@ -23,8 +23,14 @@ class Unchanged(unittest.TestCase):
 class Shown(unittest.TestCase):
 
     def test_what_shows_that_nothing_changed(self):
-        self.assertEqual(SHOWN, [[-1], [0, 4, 6], [0, 4, 6], [0, 4, 6], [-4], [1, 4, 5], [0, 5, 5], [0, 5, 5],
-                                 [0, 6, 5], [0, 6, 6]])
+        self.assertEqual(SHOWN, [[100, 4, 6, 0, 0, 1],
+                                 [3, 1, 0, 120, 1, 1, 2, 1, 300, 1, 1, 3, 0, 120, 1, 0], [0],
+                                 [9, 1, 2, 0, 2, 5, 0, 3, 2, 0], [20, 9, 20, 1],
+                                 [3, 1, 220, 2, 400, 3, 340], [0],
+                                 [-1], [0, 4, 6], [0, 4, 6], [0, 4, 6], [-4], [1, 4, 5], [0, 5, 5], [0, 5, 5],
+                                 [0, 6, 5], [0, 6, 6],
+                                 [459, 6, 6, 0, 0, 0], [0], [0], [9, 1, 2, 0, 2, 5, 0, 3, 2, 0],
+                                 [22, 9, 20, 1, 4, 2, 0], [0], [0]])
 
 
 class Time(Unchanged):
@@ -195,6 +201,21 @@ class GoalTeam(Unchanged):
             self.refused(goal(100, team), -1)
             self.refused(goal(3000, team), -1)
             self.refused(goal(99, team), -1)
+
+
+class TeamAsked(Unchanged):
+    """Promise 3, of box, minutes and till."""
+
+    def test_a_team_that_is_neither(self):
+        for team in (-1, 2, SMALLEST, LARGEST):
+            for asked in (box, minutes, till):
+                self.refused(asked(team), -1)
+                self.assertEqual(last(begin(), asked(team)), [-1])
+
+    def test_both_teams_are_taken(self):
+        for team in (0, 1):
+            for asked in (box, minutes, till):
+                self.assertEqual(last(begin(), asked(team)), [0])
 
 
 if __name__ == "__main__":

@@ -3,7 +3,7 @@ import copy
 import random
 import unittest
 
-from tests.helper import ask, begin, clock, goal, signal, stop_row
+from tests.helper import ask, begin, box, clock, goal, minutes, now, signal, stop_row, till
 
 
 class Refused(Exception):
@@ -24,8 +24,8 @@ def runs_of(team):
 class Model:
 
     def __init__(self, skaters):
-        self.base, self.now, self.teams, self.waiting = skaters, 0, ([], []), []
-        self.given = []
+        self.base, self.time, self.teams, self.waiting = skaters, 0, ([], []), []
+        self.given, self.scored = [], []
 
     def out(self, team, player):
         kinds = [kind for who, number, kind in self.given if (who, number) == (team, player)]
@@ -35,14 +35,17 @@ class Model:
         return [max(3, self.base - sum(one["counts"] for one in runs_of(team))) for team in self.teams]
 
     def go(self, time):
-        if time < self.now or time > 6000:
+        if time < self.time or time > 6000:
             raise Refused(-1)
-        while self.now < time:
-            self.now += 1
-            for team in self.teams:
-                for one in runs_of(team):
-                    one["left"] -= 1
-                team[:] = [one for one in team if one["left"]]
+        while self.time < time:
+            self.second()
+
+    def second(self):
+        self.time += 1
+        for team in self.teams:
+            for one in runs_of(team):
+                one["left"] -= 1
+            team[:] = [one for one in team if one["left"]]
 
     def full(self, more):
         weight = {3: 2, 5: 0}
@@ -104,8 +107,46 @@ class Model:
         else:
             self.waiting = self.pardoned(1 - team)
         self.come(self.waiting)
+        self.scored.append(team)
         strength = 0 if skaters[0] == skaters[1] else 1 if skaters[team] > skaters[1 - team] else 2
         return [strength, ended] + self.skaters()
+
+    def now(self):
+        return [self.time] + self.skaters() + [self.scored.count(0), self.scored.count(1), len(self.waiting)]
+
+    def asked_of(self, team):
+        if team not in (0, 1):
+            raise Refused(-1)
+        return self.teams[team]
+
+    def box(self, team):
+        mine = self.asked_of(team)
+        run = [id(one) for one in runs_of(mine)]
+        return [len(mine)] + [number for one in mine for number in (
+            one["player"], one["kind"], one["left"], 1 if one["counts"] else 0, 1 if id(one) in run else 0)]
+
+    def minutes(self, team):
+        self.asked_of(team)
+        worth = {0: 2, 1: 5, 2: 10, 3: 4, 4: 25, 5: 20}
+        players = []
+        for who, player, _ in self.given:
+            players += [player] if who == team and player not in players else []
+        told = [[player, sum(worth[kind] for who, number, kind in self.given if (who, number) == (team, player)),
+                 1 if self.out(team, player) else 0] for player in players]
+        return [sum(row[1] for row in told)] + [number for row in told for number in row]
+
+    def till(self, team):
+        mine = list(self.asked_of(team))
+        later = copy.deepcopy(self)
+        # The copies stand where theirs stood, so a copy's place tells whose it is.
+        copies, over = list(later.teams[team]), {}
+        while len(over) < len(mine):
+            later.second()
+            left = [id(one) for one in later.teams[team]]
+            for place, one in enumerate(copies):
+                if id(one) not in left:
+                    over.setdefault(place, later.time)
+        return [len(mine)] + [number for place, one in enumerate(mine) for number in (one["player"], over[place])]
 
     def pardoned(self, team):
         kept, done = [], False
@@ -137,6 +178,9 @@ def model_answers(calls):
     return told
 
 
+NAMES = ("clock", "stop", "stop", "signal", "signal", "goal") * 2 + ("now", "box", "minutes", "till")
+
+
 def made_up(source):
     """A game's calls: mostly ones that are taken, of few players, so that these meet again."""
     players = source.choice((3, 6, 30))
@@ -153,7 +197,7 @@ def made_up(source):
         if source.random() < 0.6:
             time = min(time + source.randrange(step), 6000)
         told = source.choice((-1, time - 1, 6001)) if source.random() < 0.03 else time
-        name = source.choice(("clock", "stop", "stop", "signal", "signal", "goal"))
+        name = source.choice(NAMES)
         if source.random() < 0.01:
             name = "begin"
         if name == "stop":
@@ -161,14 +205,15 @@ def made_up(source):
             given = [told, row[:-1] if source.random() < 0.02 else row]
         else:
             given = {"clock": [told], "goal": [told, source.choice((0, 1) * 20 + (2,))], "signal": one(),
-                     "begin": [source.randrange(2, 8)]}[name]
+                     "begin": [source.randrange(2, 8)], "now": []}.get(name, [source.choice((0, 1) * 10 + (-1, 2))])
         if name == "begin" and given[0] in (3, 4, 5, 6):
             time = 0
         calls.append((name, given))
-    return calls
+    return calls + [("now", [])] + [(name, [team]) for name in ("box", "minutes", "till") for team in (0, 1)]
 
 
-WRITTEN = {"begin": begin, "clock": clock, "stop": stop_row, "signal": signal, "goal": goal}
+WRITTEN = {"begin": begin, "clock": clock, "stop": stop_row, "signal": signal, "goal": goal, "now": now, "box": box,
+           "minutes": minutes, "till": till}
 
 
 class SecondBySecond(unittest.TestCase):
@@ -183,7 +228,9 @@ class SecondBySecond(unittest.TestCase):
                 met[name, answer[0]] = met.get((name, answer[0]), 0) + 1
         # The games are worth little if they don't meet every answer and every refusal often.
         for name, first in (("clock", 0), ("clock", -1), ("stop", -1), ("stop", -4), ("stop", -5), ("signal", -1),
-                            ("signal", -4), ("signal", -5), ("goal", 0), ("goal", 1), ("goal", 2), ("goal", -1)):
+                            ("signal", -4), ("signal", -5), ("goal", 0), ("goal", 1), ("goal", 2), ("goal", -1),
+                            ("box", 0), ("box", 4), ("box", 8), ("box", -1), ("till", 0), ("till", 4), ("till", 8),
+                            ("till", -1), ("minutes", 0), ("minutes", 4), ("minutes", -1)):
             self.assertGreater(met.get((name, first), 0), 20, (name, first))
 
 
